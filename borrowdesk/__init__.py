@@ -1,0 +1,1 @@
+"""Borrowdesk: things lent to read or to write within blocks."""
